@@ -1,13 +1,17 @@
 // Package eth is layer 2: frames' heads, tags, ARP. See shared/doc/02-eth.md.
 package eth
 
-import "skein/api"
+import (
+	"skein/api"
+	"skein/octets"
+)
 
 // How many bytes things have.
 const (
 	macSize    = 6
 	ipSize     = 4
 	wordSize   = 2
+	wordBits   = 8 * wordSize
 	plainHead  = 2*macSize + wordSize
 	taggedHead = plainHead + 2*wordSize
 	arpSize    = len(arpForm) + wordSize + 2*(macSize+ipSize)
@@ -16,16 +20,13 @@ const (
 // arpForm is how an ARP packet for Ethernet and IPv4 begins: both kinds of addresses, and their bytes.
 const arpForm = "\x00\x01\x08\x00\x06\x04"
 
-// maxWord is the greatest number of 2 bytes.
-const maxWord = 0xffff
-
 // Head reads a frame's head, and answers how many bytes it has.
 func Head(b []byte) (api.Eth, int, api.Errno) {
 	var h api.Eth
 	at := 0
 	take := func(size int) uint64 {
 		at += size
-		return number(b[at-size : at])
+		return octets.Number(b[at-size : at])
 	}
 	fault := api.ErrShort
 	if len(b) > api.MaxFrame {
@@ -60,7 +61,7 @@ func EncodeHead(h api.Eth) ([]byte, api.Errno) {
 		return nil, api.ErrArg
 	}
 	out := make([]byte, 0, taggedHead)
-	put := func(v uint64, size int) { out = appendNumber(out, v, size) }
+	put := func(v uint64, size int) { out = octets.Append(out, v, size) }
 	put(h.Dst, macSize)
 	put(h.Src, macSize)
 	if h.Tagged {
@@ -73,7 +74,7 @@ func EncodeHead(h api.Eth) ([]byte, api.Errno) {
 
 // headFits tells whether a head's numbers have room, and its bytes would be read back as the same head.
 func headFits(h api.Eth) bool {
-	if h.Dst > api.MaxMac || h.Src > api.MaxMac || !isWord(h.Tag) || !isWord(h.Type) {
+	if h.Dst > api.MaxMac || h.Src > api.MaxMac || !octets.Fits(h.Tag, wordBits) || !octets.Fits(h.Type, wordBits) {
 		return false
 	}
 	return h.Type != api.TypeVlan && (h.Tagged || h.Tag == 0)
@@ -85,7 +86,7 @@ func Arp(b []byte) (api.Arp, api.Errno) {
 	at := len(arpForm)
 	take := func(size int) uint64 {
 		at += size
-		return number(b[at-size : at])
+		return octets.Number(b[at-size : at])
 	}
 	fault := api.ErrShort
 	if len(b) < arpSize {
@@ -105,12 +106,12 @@ refused:
 
 // EncodeArp is an ARP packet's bytes.
 func EncodeArp(a api.Arp) ([]byte, api.Errno) {
-	if a.Sha > api.MaxMac || a.Tha > api.MaxMac || !isWord(a.Op) {
+	if a.Sha > api.MaxMac || a.Tha > api.MaxMac || !octets.Fits(a.Op, wordBits) {
 		return nil, api.ErrArg
 	}
 	out := make([]byte, 0, arpSize)
 	out = append(out, arpForm...)
-	put := func(v uint64, size int) { out = appendNumber(out, v, size) }
+	put := func(v uint64, size int) { out = octets.Append(out, v, size) }
 	put(uint64(a.Op), wordSize)
 	put(a.Sha, macSize)
 	put(uint64(a.Spa), ipSize)
@@ -122,26 +123,4 @@ func EncodeArp(a api.Arp) ([]byte, api.Errno) {
 // Multicast tells whether an address is one of a group: the first bit on the wire says so.
 func Multicast(mac uint64) bool {
 	return mac>>40&1 == 1
-}
-
-func isWord(v int) bool {
-	return 0 <= v && v <= maxWord
-}
-
-// number is the number that all of b stands for.
-func number(b []byte) uint64 {
-	var v uint64
-	for _, c := range b {
-		v = v<<8 | uint64(c)
-	}
-	return v
-}
-
-// appendNumber appends the lowest size bytes of v.
-func appendNumber(out []byte, v uint64, size int) []byte {
-	for size > 0 {
-		size--
-		out = append(out, byte(v>>(8*size)))
-	}
-	return out
 }
