@@ -425,9 +425,51 @@ func TestWrong(t *testing.T) {
 			t.Errorf("Deny of %s shares memory with it", what)
 		}
 	}
-	deep := times(1<<16-1, yes())
-	if d := expr.Deny(deep); !same(d, deep) || expr.Check(deep) != api.ErrExpr || expr.Print(deep) != "" {
-		t.Errorf("a very deep one")
+}
+
+// P15.3: what Check refuses because it is too deep is denied by itself, in all its parts, as deep as the document
+// promises anything and beyond.
+func TestWrongDeep(t *testing.T) {
+	rounds := map[string]func(e api.Expr) api.Expr{
+		"Not":        not,
+		"And, first": func(e api.Expr) api.Expr { return and(e, eq(api.IpTtl, 5)) },
+		"Or, last":   func(e api.Expr) api.Expr { return or(no(), eq(api.TpDst, 5), e) },
+		"Is with parts": func(e api.Expr) api.Expr {
+			return api.Expr{Kind: api.ExprIs, Field: 3, Op: 4, Value: 5, Mask: 6, Parts: []api.Expr{e}}
+		},
+	}
+	for what, around := range rounds {
+		for _, depth := range []int{65, 1<<16 - 1, 1 << 16, 1<<16 + 1, 1 << 17} {
+			e := masked(api.IpSrc, api.OpEq, 0x0a000000, 0xff000000)
+			for range depth {
+				e = around(e)
+			}
+			d := expr.Deny(e)
+			if !same(d, e) || expr.Check(e) != api.ErrExpr || expr.Print(e) != "" {
+				t.Errorf("%s, %d deep", what, depth)
+			}
+			kept := clone(e)
+			wipe(d)
+			if !same(e, kept) {
+				t.Errorf("%s, %d deep: Deny shares memory with it", what, depth)
+			}
+		}
+	}
+}
+
+// R3: lists that lie in an expression twice lie in an answer each in memory of its own.
+func TestDenySharesNothing(t *testing.T) {
+	twice := []api.Expr{yes(), not(no())}
+	for what, e := range map[string]api.Expr{
+		"right": and(or(twice...), or(twice...)),
+		"wrong": and(or(twice...), or(twice...), or(twice[:1]...)),
+	} {
+		d := expr.Deny(e)
+		kept := clone(api.Expr{Parts: d.Parts[1:]})
+		wipe(d.Parts[0])
+		if !same(api.Expr{Parts: d.Parts[1:]}, kept) {
+			t.Errorf("%s: %+v", what, d)
+		}
 	}
 }
 
@@ -471,6 +513,24 @@ func TestDeny(t *testing.T) {
 		wipe(denied)
 		if !same(x.e, kept) {
 			t.Errorf("%s: Deny shares memory with it", expr.Print(kept))
+		}
+	}
+}
+
+// R1: an expression that lies within itself, by as many of its parts as there are, is refused, and denied by itself.
+func TestWithinItselfByAll(t *testing.T) {
+	l := make([]api.Expr, 3)
+	for i, kind := range []int{api.ExprAnd, api.ExprOr, api.ExprNot} {
+		l[i] = api.Expr{Kind: kind, Parts: l[:3-i]}
+	}
+	for _, e := range l {
+		d := expr.Deny(e)
+		for at := range 1000 {
+			if d.Kind != e.Kind || len(d.Parts) != len(e.Parts) || &d.Parts[0] == &e.Parts[0] {
+				t.Fatalf("within %d others: %d with %d parts, not %d with %d", at, d.Kind, len(d.Parts), e.Kind, len(e.Parts))
+			}
+			part := at * 7 % len(e.Parts)
+			d, e = d.Parts[part], e.Parts[part]
 		}
 	}
 }
