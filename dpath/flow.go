@@ -7,6 +7,7 @@ import (
 
 	"skein/act"
 	"skein/api"
+	"skein/flow"
 	"skein/match"
 )
 
@@ -28,7 +29,7 @@ func rowsOf(l []api.Flow) (map[string]*row, api.Errno) {
 		if fault := check(f); fault != api.OK {
 			return nil, fault
 		}
-		r := &row{flow: copyOf(f), text: match.Text(f.Terms)}
+		r := &row{flow: flow.Copy(f), text: match.Text(f.Terms)}
 		name := r.name()
 		if named[name] != nil {
 			return nil, api.ErrTwice
@@ -66,20 +67,6 @@ func inOrder(a, b *row) int {
 		cmp.Compare(b.flow.Priority, a.flow.Priority),
 		cmp.Compare(a.text, b.text),
 	)
-}
-
-// copyOf is a flow whose lists are in memory of their own.
-func copyOf(f api.Flow) api.Flow {
-	f.Terms, f.Acts = slices.Clone(f.Terms), copyOfActs(f.Acts)
-	return f
-}
-
-func copyOfActs(l []api.Act) []api.Act {
-	out := slices.Clone(l)
-	for i, a := range out {
-		out[i].Acts, out[i].Ways = copyOfActs(a.Acts), slices.Clone(a.Ways)
-	}
-	return out
 }
 
 // Same tells whether two flows are the same in all.

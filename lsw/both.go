@@ -2,6 +2,7 @@ package lsw
 
 import (
 	"skein/api"
+	"skein/flow"
 	"skein/nbdb"
 )
 
@@ -10,18 +11,18 @@ import (
 
 // look is tables 1 and 10: what is known of a frame's connection.
 func (c *compiler) look(table, zone int) {
-	put := c.table(table)
+	put := c.Table(table)
 	if c.tracks {
-		put(10, when(is(api.EthType, api.TypeIp)), api.Act{Kind: api.ActCtLook, Port: zone}, goTo(table+1))
+		put(10, flow.When(flow.Is(api.EthType, api.TypeIp)), api.Act{Kind: api.ActCtLook, Port: zone}, flow.GoTo(table+1))
 	}
-	put(otherwise, nil, goTo(table+1))
+	put(flow.Otherwise, nil, flow.GoTo(table+1))
 }
 
 // filter is tables 2 and 11: the ACLs of frames from a port, or to a port.
 func (c *compiler) filter(table int, isTo bool) {
-	put := c.table(table)
+	put := c.Table(table)
 	if c.tracks {
-		put(65535, when(has(api.CtState, api.CtEst)), goTo(table+1))
+		put(65535, flow.When(flow.Has(api.CtState, api.CtEst)), flow.GoTo(table+1))
 	}
 	names, keys := c.names()
 	for _, r := range c.acls {
@@ -35,7 +36,7 @@ func (c *compiler) filter(table int, isTo bool) {
 			put(leastAcl+r.Num, m, verdict(r.Num2, table+1)...)
 		}
 	}
-	put(otherwise, nil, goTo(table+1))
+	put(flow.Otherwise, nil, flow.GoTo(table+1))
 }
 
 // leastAcl is the priority of an ACL of Num 0.
@@ -45,7 +46,7 @@ const leastAcl = 1000
 func (c *compiler) names() (names []string, keys []api.Key) {
 	for _, p := range c.ports {
 		names = append(names, p.Name)
-		keys = append(keys, api.Key{Name: p.Name, Num: p.key})
+		keys = append(keys, api.Key{Name: p.Name, Num: p.Key})
 	}
 	return names, keys
 }
@@ -54,16 +55,16 @@ func (c *compiler) names() (names []string, keys []api.Key) {
 func verdict(does, next int) []api.Act {
 	switch does {
 	case api.AclAllow:
-		return []api.Act{goTo(next)}
+		return []api.Act{flow.GoTo(next)}
 	case api.AclRelated:
-		return []api.Act{mark(api.Reg0, toCommit), goTo(next)}
+		return []api.Act{flow.Mark(api.Reg0, toCommit), flow.GoTo(next)}
 	}
 	return nil
 }
 
 // commit is tables 5 and 12: a connection is remembered.
 func (c *compiler) commit(table, zone int) {
-	put := c.table(table)
-	put(10, when(has(api.Reg0, toCommit)), api.Act{Kind: api.ActCtCommit, Port: zone}, goTo(table+1))
-	put(otherwise, nil, goTo(table+1))
+	put := c.Table(table)
+	put(10, flow.When(flow.Has(api.Reg0, toCommit)), api.Act{Kind: api.ActCtCommit, Port: zone}, flow.GoTo(table+1))
+	put(flow.Otherwise, nil, flow.GoTo(table+1))
 }

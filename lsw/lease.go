@@ -1,6 +1,9 @@
 package lsw
 
-import "skein/api"
+import (
+	"skein/api"
+	"skein/network"
+)
 
 // What a network without a router leases from.
 const (
@@ -12,11 +15,11 @@ const (
 const leaseTime = 3600
 
 // leaseOf is the lease of a VIF of a switch with these ports, and from which Mac.
-func leaseOf(vif api.Row, ports []port) (api.Lease, uint64) {
+func leaseOf(vif api.Row, ports []network.Port) (api.Lease, uint64) {
 	lease := api.Lease{Mac: vif.Mac, Ip: vif.Ip, Server: lonelyServer, Mask: lonelyMask, Time: leaseTime}
 	for _, p := range ports {
-		if !isVif(p.Row) {
-			lease.Server, lease.Router, lease.Mask = p.Ip, p.Ip, prefixMask(p.far.Num)
+		if !network.IsVif(p.Row) {
+			lease.Server, lease.Router, lease.Mask = p.Ip, p.Ip, prefixMask(p.Far.Num)
 			return lease, p.Mac
 		}
 	}

@@ -1,6 +1,10 @@
 package lsw
 
-import "skein/api"
+import (
+	"skein/api"
+	"skein/flow"
+	"skein/network"
+)
 
 // The tables of a switch, from 0 on. Behind tableOut are those of the port at which a frame goes out; the last one
 // leads to a host's own.
@@ -46,30 +50,27 @@ const (
 	zoneOut
 )
 
-// otherwise is the priority of flows that take all that the others leave.
-const otherwise = 0
-
 // compiler is a switch, and its flows so far.
 type compiler struct {
-	builder
-	ports  []port
+	flow.Builder
+	ports  []network.Port
 	acls   []api.Row
 	vips   []api.Row
 	macs   map[uint32]uint64 // of the VIFs, by their Ips
 	tracks bool
 }
 
-func compilerOf(n *network, name string) *compiler {
+func compilerOf(n *network.Network, rows []api.Row, name string) *compiler {
 	c := &compiler{
-		builder: builder{datapath: n.key(api.RowSwitch, name)},
-		ports:   n.ports(name),
-		acls:    n.of(api.RowAcl, name),
-		vips:    n.of(api.RowVip, name),
+		Builder: flow.Of(n.Key(api.RowSwitch, name)),
+		ports:   n.Ports(name),
+		acls:    n.Owned(api.RowAcl, name),
+		vips:    n.Owned(api.RowVip, name),
 		macs:    map[uint32]uint64{},
-		tracks:  Stateful(n.rows, name),
+		tracks:  Stateful(rows, name),
 	}
 	for _, p := range c.ports {
-		if isVif(p.Row) {
+		if network.IsVif(p.Row) {
 			c.macs[p.Ip] = p.Mac
 		}
 	}
