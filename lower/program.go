@@ -26,19 +26,16 @@ type program struct {
 func (p *program) flows() []api.Flow {
 	var all []api.Flow
 	each := func(kind int, flowsOf func(name string) []api.Flow) {
-		for _, r := range p.Owned(kind, nobody) {
+		for _, r := range p.Owned(kind, network.Nobody) {
 			all = append(all, flowsOf(r.Name)...)
 		}
 	}
 	// From all rows the layers below would tell the same; but each time they would check all of them.
-	each(api.RowSwitch, func(name string) []api.Flow { return lsw.Compile(switchPart(p.Network, name), p.keys, name) })
-	each(api.RowRouter, func(name string) []api.Flow { return lrt.Compile(routerPart(p.Network, name), p.keys, name) })
+	each(api.RowSwitch, func(name string) []api.Flow { return lsw.Compile(p.SwitchRows(name), p.keys, name) })
+	each(api.RowRouter, func(name string) []api.Flow { return lrt.Compile(p.RouterRows(name), p.keys, name) })
 	each(api.RowSwitch, p.ends)
 	return flow.Sorted(all)
 }
-
-// nobody is the owner of switches and routers.
-const nobody = ""
 
 // ends is the flows of a switch's VIFs that are bound: a frame goes out here, or to the host where it does.
 func (p *program) ends(name string) []api.Flow {

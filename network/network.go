@@ -29,7 +29,13 @@ func Of(rows []api.Row) (*Network, bool) {
 	if nbdb.Check(rows) != api.OK {
 		return nil, false
 	}
-	n := &Network{named: map[label]api.Row{}, owned: map[label][]api.Row{}, links: map[string]api.Row{}}
+	return Known(rows, api.Keys{}), true
+}
+
+// Known is the network of rows that are known to be well formed, and of keys that are known to be right and theirs, where
+// these are asked for: nothing is checked.
+func Known(rows []api.Row, k api.Keys) *Network {
+	n := &Network{named: map[label]api.Row{}, owned: map[label][]api.Row{}, links: map[string]api.Row{}, keys: k}
 	for _, r := range slices.SortedFunc(slices.Values(rows), inOrder) {
 		n.named[label{r.Kind, r.Name}] = r
 		n.owned[label{r.Kind, r.Owner}] = append(n.owned[label{r.Kind, r.Owner}], r)
@@ -37,7 +43,7 @@ func Of(rows []api.Row) (*Network, bool) {
 			n.links[r.Peer] = r
 		}
 	}
-	return n, true
+	return n
 }
 
 // inOrder compares the places of two rows of one kind and owner, where these play a part: of ports, which have names,
@@ -57,7 +63,10 @@ func (n *Network) Find(kind int, name string) (api.Row, bool) {
 	return r, ok
 }
 
-// Owned is the rows of a kind and an owner, in the rows' order. Of kinds without owners it is all, if nobody is asked for.
+// Nobody is the owner of rows of kinds without owners.
+const Nobody = ""
+
+// Owned is the rows of a kind and an owner, in the rows' order.
 func (n *Network) Owned(kind int, owner string) []api.Row {
 	return n.owned[label{kind, owner}]
 }

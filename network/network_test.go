@@ -1,7 +1,9 @@
 package network_test
 
 import (
+	"cmp"
 	"slices"
+	"strconv"
 	"testing"
 
 	"skein/api"
@@ -155,5 +157,51 @@ func TestNone(t *testing.T) {
 	}
 	if _, ok := network.Numbered(nil, api.Keys{}); !ok {
 		t.Errorf("no rows")
+	}
+}
+
+// Nothing is checked of what is known, and all is found as ever.
+func TestKnown(t *testing.T) {
+	n := network.Known(append(rows(), api.Row{Kind: api.RowSwitch, Name: "x"}), netKeys())
+	if r, ok := n.Find(api.RowSwitch, "x"); !ok || r.Name != "x" || n.Key(api.RowSwitch, "x") != 0 || n.Key(api.RowSwitch, "s") != 3 {
+		t.Errorf("%+v, %v", r, ok)
+	}
+	if p := n.Ports("s"); len(p) != 3 || p[0].Key != 9 || p[0].Far.Router != 5 {
+		t.Errorf("%+v", p)
+	}
+}
+
+// Parts are well formed, and have each row that they hang on once.
+func TestParts(t *testing.T) {
+	all := append(rows(),
+		api.Row{Kind: api.RowAcl, Owner: "s", Num: 1, Text: "inport == a", Num2: 1}, api.Row{Kind: api.RowAcl, Owner: "t", Num: 1, Text: "1", Num2: 1},
+		api.Row{Kind: api.RowRoute, Owner: "r", Ip2: 5, Peer: "r3"}, api.Row{Kind: api.RowNat, Owner: "r", Peer: "r1", Ip: 77, Ip2: 78}, api.Row{Kind: api.RowRoute, Owner: "q", Ip2: 5, Peer: "r2"},
+		api.Row{Kind: api.RowPort, Name: "y", Owner: "t", Peer: "r4"}, api.Row{Kind: api.RowRouterPort, Name: "r4", Owner: "r", Mac: 24, Ip: 0x0a000001, Num: 8})
+	n, ok := network.Of(all)
+	if !ok {
+		t.Fatal("not well formed")
+	}
+	segment := []string{"1 s", "2 a", "2 b", "2 z", "3 q", "3 r", "4 r1", "4 r2"}
+	both := append(slices.Clone(segment), "1 t", "2 c", "2 y", "4 r3", "4 r4", "5 r", "7 r")
+	for what, x := range map[string]struct {
+		got  []api.Row
+		want []string
+	}{
+		"a switch's ports":   {n.PortRows("s"), segment},
+		"another one's":      {n.PortRows("t"), []string{"1 t", "2 c", "2 y", "3 r", "4 r4"}},
+		"a switch's":         {n.SwitchRows("s"), append(slices.Clone(segment), "6 s", "8 s", "8 s", "8 s", "8 s")},
+		"a switch's, no VIP": {n.SwitchRows("t"), []string{"1 t", "2 c", "2 y", "3 r", "4 r4", "6 t"}},
+		"a router's":         {n.RouterRows("r"), both},
+		"a router's, of one": {n.RouterRows("q"), append(slices.Clone(segment), "5 q")},
+	} {
+		var got []string
+		for _, r := range x.got {
+			got = append(got, strconv.Itoa(r.Kind)+" "+cmp.Or(r.Name, r.Owner))
+		}
+		slices.Sort(got)
+		slices.Sort(x.want)
+		if !slices.Equal(got, x.want) || nbdb.Check(x.got) != api.OK {
+			t.Errorf("%s: %q, not %q: %d", what, got, x.want, nbdb.Check(x.got))
+		}
 	}
 }

@@ -1,39 +1,37 @@
-package lower
+package network
 
-import (
-	"skein/api"
-	"skein/network"
-)
+import "skein/api"
 
 // part is some of a network's rows, each once. Whatever they name is there, too: they are well formed, as all of them
-// are.
+// are. What is asked of a part is told sooner than of all rows, which the layers check each time.
 type part struct {
-	*network.Network
+	*Network
 	rows []api.Row
 	had  map[label]struct{}
 }
 
-// label is what no two rows of a kind with names share.
-type label struct {
-	kind int
-	name string
-}
-
-func partOf(n *network.Network) *part {
+func partOf(n *Network) *part {
 	return &part{Network: n, had: map[label]struct{}{}}
 }
 
-// switchPart is the rows that a switch's flows hang on: its own, and the routers' ports that its links lead to.
-func switchPart(n *network.Network, name string) []api.Row {
+// PortRows is a switch, its ports, and the routers' ports that its links lead to.
+func (n *Network) PortRows(name string) []api.Row {
+	p := partOf(n)
+	p.takeSwitch(name)
+	return p.rows
+}
+
+// SwitchRows is the rows that a switch's flows hang on: its own, and the routers' ports that its links lead to.
+func (n *Network) SwitchRows(name string) []api.Row {
 	p := partOf(n)
 	p.takeSwitch(name)
 	p.takeOwned(name, api.RowAcl, api.RowVip)
 	return p.rows
 }
 
-// routerPart is the rows that a router's flows hang on: its own, and the switches to which its ports are linked, with
+// RouterRows is the rows that a router's flows hang on: its own, and the switches to which its ports are linked, with
 // their ports.
-func routerPart(n *network.Network, name string) []api.Row {
+func (n *Network) RouterRows(name string) []api.Row {
 	p := partOf(n)
 	p.take(api.RowRouter, name)
 	for _, r := range n.Owned(api.RowRouterPort, name) {
@@ -69,7 +67,7 @@ func (p *part) takeSwitch(name string) {
 	p.take(api.RowSwitch, name)
 	for _, r := range p.Owned(api.RowPort, name) {
 		p.take(api.RowPort, r.Name)
-		if !network.IsVif(r) {
+		if !IsVif(r) {
 			far, _ := p.Find(api.RowRouterPort, r.Peer)
 			p.take(api.RowRouter, far.Owner)
 			p.take(api.RowRouterPort, far.Name)
