@@ -205,3 +205,38 @@ func TestParts(t *testing.T) {
 		}
 	}
 }
+
+// A database of rows has these, in memory of its own.
+func TestDatabase(t *testing.T) {
+	l := rows()
+	d := network.Database(l)
+	l[0].Ways[0].Ip = 77
+	got := d.Rows()
+	if e, at := d.Apply(nil); e != api.OK || at != 0 || len(got) != len(l) {
+		t.Errorf("%d at %d, %d rows", e, at, len(got))
+	}
+	for _, r := range rows() {
+		if !slices.ContainsFunc(got, func(x api.Row) bool { return nbdb.Same(x, r) }) {
+			t.Errorf("%+v is not there", r)
+		}
+	}
+	if len(network.Database(nil).Rows()) != 0 {
+		t.Errorf("of no rows")
+	}
+}
+
+// A copy of keys is the same, and shares no memory with them, its spare room neither.
+func TestCopyOfKeys(t *testing.T) {
+	k := netKeys()
+	c := network.CopyOfKeys(k)
+	lists := func(k api.Keys) [][]api.Key { return [][]api.Key{k.Switches, k.Routers, k.Ports, k.RouterPorts} }
+	for i, l := range lists(k) {
+		if !slices.Equal(lists(c)[i], l) {
+			t.Errorf("list %d: %v, not %v", i, lists(c)[i], l)
+		}
+		l[0].Num = 99
+		if lists(c)[i][0].Num == 99 {
+			t.Errorf("list %d is shared", i)
+		}
+	}
+}
